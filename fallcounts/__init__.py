@@ -1,0 +1,1 @@
+"""Fallcounts: orders by their falls."""
