@@ -24,10 +24,15 @@ def order_needed(thing):
         raise NoOrder()
 
 
+def falls_in(numbers):
+    """Tell the places of a tuple of numbers whose number is greater than the next one."""
+    return tuple([place for place in range(len(numbers) - 1) if numbers[place] > numbers[place + 1]])
+
+
 def falls_of(order):
     """Tell the places whose number is greater than the next one."""
     order_needed(order)
-    return tuple([place for place in range(len(order) - 1) if order[place] > order[place + 1]])
+    return falls_in(order)
 
 
 def rises_of(order):

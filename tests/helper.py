@@ -1,7 +1,10 @@
-"""Orders to ask about, and things that are no orders."""
+"""Orders to ask about, things that are none, and what the tests have in common."""
 
+import inspect
 import itertools
+import math
 import random
+import unittest
 
 
 def rising(n):
@@ -151,3 +154,89 @@ def things_no_tuples():
 
 def no_orders():
     return tuples_no_orders() + things_no_tuples()
+
+
+def no_whole():
+    """Things of whatever kind that are no whole numbers, new at each call."""
+    others = [thing for thing in things_no_tuples() if type(thing) is not int]
+    return others + [(), (0,), (1,), (0, 1), ((1,),), ([],), "1", "12", [1], {1: 1}]
+
+
+def no_numbers(least, most):
+    """Things that are no whole numbers from least to most, new at each call."""
+    beyond = [least - 1, least - 2, most + 1, most + 2, least - 10 ** 39, most + 10 ** 39]
+    return beyond + no_whole()
+
+
+def number_at(n, k):
+    """How many orders of n have just k falls, summed up over parts with signs."""
+    parts = [math.comb(n + 1, j) * (k + 1 - j) ** n for j in range(k + 1)]
+    return sum(parts[::2]) - sum(parts[1::2])
+
+
+def falls_seen(numbers):
+    """The falls of a tuple of numbers, found without the package."""
+    return tuple(
+        [at for at, (one, other) in enumerate(zip(numbers, numbers[1:])) if one > other]
+    )
+
+
+def orders_by_many(n):
+    """All orders of n, rising, by how many falls they have."""
+    found = {k: [] for k in range(n)}
+    for order in all_orders(n):
+        found[len(falls_seen(order))].append(order)
+    return found
+
+
+def orders_by_falls(n):
+    """All orders of n, rising, by their falls."""
+    found = {}
+    for order in all_orders(n):
+        found.setdefault(falls_seen(order), []).append(order)
+    return found
+
+
+class Asking(unittest.TestCase):
+    """What test cases ask alike."""
+
+    def assert_refused(self, kind, ask, *things):
+        kept = repr(things)
+        with self.subTest(ask=ask.__name__, things=kept[:90]):
+            with self.assertRaises(kind) as caught:
+                ask(*things)
+            self.assertIs(type(caught.exception), kind)
+            self.assertEqual(repr(things), kept)
+
+    def assert_too_great(self, many, most, ask, *things):
+        kept = repr(things)
+        with self.assertRaises(ValueError) as caught:
+            ask(*things)
+        error = caught.exception
+        self.assertEqual(type(error).__name__, "TooGreat")
+        self.assertEqual((error.many, error.most), (many, most))
+        self.assertEqual(repr(things), kept)
+
+    def assert_numbers(self, kind, answer):
+        """The answer is of the kind, and holds whole numbers alone."""
+        self.assertIs(type(answer), kind)
+        for number in answer:
+            self.assertIs(type(number), int)
+
+    def assert_own(self, ask, *things):
+        """A list that is told is new at each call."""
+        first = ask(*things)
+        self.assertIs(type(first), list)
+        due = list(first)
+        second = ask(*things)
+        first.append(7)
+        first[0] = None
+        self.assertEqual(second, due)
+        second.clear()
+        self.assertEqual(ask(*things), due)
+
+    def assert_arguments(self, module, told):
+        for name, due in told.items():
+            with self.subTest(name=name):
+                found = inspect.signature(getattr(module, name)).parameters
+                self.assertEqual(list(found), due)

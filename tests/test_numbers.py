@@ -1,10 +1,20 @@
-"""[0.3]: what is a whole number."""
+"""[0.3]: what is a whole number; and what is reckoned with such."""
 
+import fractions
+import math
 import unittest
 
-from fallcounts.numbers import is_whole, is_within
+from fallcounts.errors import NoNumber
+from fallcounts.numbers import (
+    is_whole,
+    is_within,
+    number_needed,
+    power_of,
+    share_of,
+    ways_out,
+)
 
-from helper import no_orders
+from helper import Asking, no_numbers, no_orders
 
 OTHERS = [
     thing for thing in no_orders() if isinstance(thing, bool) or not isinstance(thing, int)
@@ -36,6 +46,40 @@ class TestWithin(unittest.TestCase):
         for thing in [True, False] + OTHERS:
             with self.subTest(thing=repr(thing)[:60]):
                 self.assertIs(is_within(thing, -1, 2), False)
+
+
+class TestNeeded(Asking):
+    def test_within_is_taken(self):
+        for number in range(-2, 4):
+            self.assertIsNone(number_needed(number, -2, 3))
+
+    def test_all_else_is_refused(self):
+        for thing in no_numbers(-2, 3):
+            self.assert_refused(NoNumber, number_needed, thing, -2, 3)
+
+    def test_nothing_is_within_turned_bounds(self):
+        for number in (-1, 0, 1):
+            self.assert_refused(NoNumber, number_needed, number, 0, -1)
+
+
+class TestReckoned(Asking):
+    def test_powers(self):
+        for base in range(-4, 12):
+            for exponent in range(12):
+                self.assertEqual(power_of(base, exponent), base ** exponent)
+
+    def test_ways_out(self):
+        for many in range(20):
+            for taken in range(25):
+                self.assertEqual(ways_out(many, taken), math.comb(many, taken))
+
+    def test_shares_are_in_least_terms(self):
+        for top in range(-30, 31):
+            for bottom in range(1, 31):
+                due = fractions.Fraction(top, bottom)
+                answer = share_of(top, bottom)
+                self.assertEqual(answer, (due.numerator, due.denominator))
+                self.assert_numbers(tuple, answer)
 
 
 if __name__ == "__main__":
