@@ -28,6 +28,14 @@ def power_of(base, exponent):
     return power
 
 
+def factorial_of(many):
+    """Tell in how many ways so many things stand one behind the other."""
+    ways = 1
+    for step in range(many):
+        ways *= step + 1
+    return ways
+
+
 def ways_out(many, taken):
     """Tell in how many ways so many things are taken out of many, 0 where there are fewer."""
     ways = 1

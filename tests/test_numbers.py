@@ -6,6 +6,7 @@ import unittest
 
 from fallcounts.errors import NoNumber
 from fallcounts.numbers import (
+    factorial_of,
     is_whole,
     is_within,
     number_needed,
@@ -67,6 +68,10 @@ class TestReckoned(Asking):
         for base in range(-4, 12):
             for exponent in range(12):
                 self.assertEqual(power_of(base, exponent), base ** exponent)
+
+    def test_factorials(self):
+        for many in range(25):
+            self.assertEqual(factorial_of(many), math.factorial(many))
 
     def test_ways_out(self):
         for many in range(20):
